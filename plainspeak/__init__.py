@@ -1,0 +1,1 @@
+# Binds nothing: each name is drawn from the very file that defines it.

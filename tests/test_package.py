@@ -1,0 +1,55 @@
+"""The interface: names, arguments by place, and an `__init__` that binds nothing."""
+
+import inspect
+import subprocess
+import sys
+import unittest
+
+from plainspeak import errors, kinds, reading, words
+
+FUNCTIONS = [(kinds, "kind_text", ["kind"]), (reading, "read", ["text"]), (reading, "written", ["part"])]
+
+
+class TestInterface(unittest.TestCase):
+    def test_init_binds_nothing(self):
+        program = "import plainspeak; print([name for name in vars(plainspeak) if not name.startswith('__')])"
+        told = subprocess.run([sys.executable, "-c", program], capture_output=True, text=True, check=True)
+        self.assertEqual(told.stdout.strip(), "[]")
+
+    def test_functions_take_one_thing_by_place(self):
+        for module, name, arguments in FUNCTIONS:
+            with self.subTest(name=name):
+                self.assertEqual(list(inspect.signature(getattr(module, name)).parameters), arguments)
+
+    def test_kinds_of_what_is_told(self):
+        self.assertIs(type(kinds.kind_text(("list", "int"))), str)
+        self.assertIs(type(reading.written(("num", 5))), str)
+        self.assertIs(type(reading.read("(not true)")), tuple)
+        self.assertIs(type(reading.read("5")[1]), int)
+        self.assertIs(reading.read("true")[1], True)
+        self.assertIs(reading.read("false")[1], False)
+        self.assertIs(type(errors.BadText("words", 3).at), int)
+
+    def test_refusals_of_read_tell_whole_numbers(self):
+        for text in ["", "$", "(not", "1 2", " " * 2001]:
+            with self.assertRaises(errors.BadText) as caught:
+                reading.read(text)
+            self.assertIs(type(caught.exception.at), int)
+
+
+class TestWords(unittest.TestCase):
+    def test_names(self):
+        for run in ["x", "a1", "abcdefgh", "z0000000"]:
+            self.assertTrue(words.is_name(run), run)
+        for run in ["", "1", "1a", "-", "a-b", "abcdefghi", "A", "aB", "num", "true", "fun", "(", "\u00e9"]:
+            self.assertFalse(words.is_name(run), run)
+
+    def test_numbers(self):
+        for run in ["0", "-0", "0" * 19, "9223372036854775807", "-9223372036854775808"]:
+            self.assertTrue(words.is_number(run), run)
+        for run in ["", "-", "--1", "1-", "a", "0" * 20, "9223372036854775808", "-9223372036854775809", "+1", " 1", "\u0661"]:
+            self.assertFalse(words.is_number(run), run)
+
+
+if __name__ == "__main__":
+    unittest.main()
