@@ -46,6 +46,12 @@ TRUTHS = {"true": True, "false": False}
 BARE_PARTS = ("num", "truth", "name")
 
 
+# What stands in a part's slots of one sort, "part", "name" or "kind", from the left.
+def values_behind(part, sort):
+    slots = PART_SLOTS.get(part[0], ())
+    return [value for slot, value in zip(slots, part[1:]) if slot == sort]
+
+
 def is_word(run):
     return run in PART_SLOTS or run in KIND_SIZES or run in BARE_KINDS or run in TRUTHS or run in BARE_PARTS
 

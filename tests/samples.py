@@ -98,3 +98,248 @@ def pieces(text):
             found.append((text[place:end], place))
         place = end
     return found
+
+
+# A part of each of these kinds, and the kind itself.
+VALUES = {
+    "int": ("1", "int"),
+    "bool": ("true", "bool"),
+    "ints": ("(nil int)", ("list", "int")),
+    "bools": ("(nil bool)", ("list", "bool")),
+    "both": ("(pair 1 true)", ("pair", "int", "bool")),
+    "fun": ("(fn x int true)", ("fun", "int", "bool")),
+}
+
+# What of VALUES fits behind a word, and what comes of it; nothing else of VALUES fits there.
+FITTING = {
+    "cons": {("int", "ints"): "ints", ("bool", "bools"): "bools"},
+    "head": {("ints",): "int", ("bools",): "bool"},
+    "tail": {("ints",): "ints", ("bools",): "bools"},
+    "empty": {("ints",): "bool", ("bools",): "bool"},
+    "first": {("both",): "int"},
+    "second": {("both",): "bool"},
+    "if": {("bool", value, value): value for value in VALUES},
+    "call": {("fun", "int"): "bool"},
+    "plus": {("int", "int"): "int"},
+    "minus": {("int", "int"): "int"},
+    "times": {("int", "int"): "int"},
+    "over": {("int", "int"): "int"},
+    "rest": {("int", "int"): "int"},
+    "less": {("int", "int"): "bool"},
+    "same": {("int", "int"): "bool"},
+    "and": {("bool", "bool"): "bool"},
+    "or": {("bool", "bool"): "bool"},
+    "not": {("bool",): "bool"},
+}
+
+# Texts of parts that fit, with their kinds.
+FIT = [
+    # numbers, truths, empty lists
+    ("0", "int"),
+    ("-9223372036854775808", "int"),
+    ("9223372036854775807", "int"),
+    ("true", "bool"),
+    ("false", "bool"),
+    ("(nil (list bool))", ("list", ("list", "bool"))),
+    ("(nil (fun int (pair bool int)))", ("list", ("fun", "int", ("pair", "bool", "int")))),
+    # names bound by let, fn and rec, and bound anew within
+    ("(let x 1 x)", "int"),
+    ("(let x 1 true)", "bool"),
+    ("(let x true (let y 1 x))", "bool"),
+    ("(let x 1 (let x true x))", "bool"),
+    ("(let x 1 (pair (let x true x) x))", ("pair", "bool", "int")),
+    ("(let x 1 (pair x (let x true x)))", ("pair", "int", "bool")),
+    ("(let x 1 (let x (less x 2) x))", "bool"),
+    ("(let x 1 (let x (pair x x) (let x (pair x true) x)))", ("pair", ("pair", "int", "int"), "bool")),
+    ("(let x 1 (fn x bool x))", ("fun", "bool", "bool")),
+    ("(fn x bool (let x 1 x))", ("fun", "bool", "int")),
+    ("(fn x int (fn x bool x))", ("fun", "int", ("fun", "bool", "bool"))),
+    ("(fn x int (fn y bool x))", ("fun", "int", ("fun", "bool", "int"))),
+    ("(pair (fn x int x) (fn x bool x))", ("pair", ("fun", "int", "int"), ("fun", "bool", "bool"))),
+    ("(let x (fn x int true) (call x 1))", "bool"),
+    # functions that know themselves
+    ("(rec f x int bool true)", ("fun", "int", "bool")),
+    ("(rec f x int bool (call f x))", ("fun", "int", "bool")),
+    ("(rec f f int int f)", ("fun", "int", "int")),
+    ("(rec f f bool int (if f 1 2))", ("fun", "bool", "int")),
+    ("(rec f f (fun int bool) bool (call f 1))", ("fun", ("fun", "int", "bool"), "bool")),
+    ("(rec f x int int (let f x (plus f 1)))", ("fun", "int", "int")),
+    ("(let f true (rec f x int int (call f x)))", ("fun", "int", "int")),
+    ("(let x true (rec f x int int x))", ("fun", "int", "int")),
+    ("(rec f x int (fun int int) (rec g y int int (call (call f y) x)))",
+     ("fun", "int", ("fun", "int", "int"))),
+    ("(let f (rec g n int int (if (less n 1) 0 (plus n (call g (minus n 1))))) (call f 5))", "int"),
+    ("(rec f l (list int) int (if (empty l) 0 (plus (head l) (call f (tail l)))))", ("fun", ("list", "int"), "int")),
+    # kinds of functions, pairs and lists within one another
+    ("(cons (pair 1 (nil bool)) (nil (pair int (list bool))))", ("list", ("pair", "int", ("list", "bool")))),
+    ("(head (cons (fn x int x) (nil (fun int int))))", ("fun", "int", "int")),
+    ("(call (head (cons (fn x int x) (nil (fun int int)))) 1)", "int"),
+    ("(tail (head (nil (list (list int)))))", ("list", ("list", "int"))),
+    ("(first (second (pair 1 (pair (nil int) true))))", ("list", "int")),
+    ("(fn p (pair (fun int bool) int) (call (first p) (second p)))",
+     ("fun", ("pair", ("fun", "int", "bool"), "int"), "bool")),
+    ("(fn f (fun int (fun bool int)) (fn g (fun int bool) (fn x int (call (call f x) (call g x)))))",
+     ("fun", ("fun", "int", ("fun", "bool", "int")), ("fun", ("fun", "int", "bool"), ("fun", "int", "int")))),
+    ("(if true (fn x int (nil int)) (fn y int (cons y (nil int))))", ("fun", "int", ("list", "int"))),
+    ("(pair (pair 1 true) (pair true 1))", ("pair", ("pair", "int", "bool"), ("pair", "bool", "int"))),
+]
+
+# Texts of parts that don't fit; a name where it is a name that nothing binds, else None.
+UNFIT = [
+    # names that nothing binds, or that are bound elsewhere only
+    ("x", "x"),
+    ("abcdefgh", "abcdefgh"),
+    ("(not x)", "x"),
+    ("(let x 1 y)", "y"),
+    ("(let x x 1)", "x"),
+    ("(let x (plus x 1) x)", "x"),
+    ("(let x (fn y int x) x)", "x"),
+    ("(let f (fn n int (call f n)) 1)", "f"),
+    ("(fn x int y)", "y"),
+    ("(rec f x int int y)", "y"),
+    ("(rec f x int int g)", "g"),
+    ("(plus (let x 1 x) x)", "x"),
+    ("(plus x (let x 1 x))", "x"),
+    ("(pair (fn x int x) x)", "x"),
+    ("(pair x (fn x int x))", "x"),
+    ("(pair (rec f x int int x) x)", "x"),
+    ("(pair (rec f x int int x) f)", "f"),
+    ("(call (fn x int x) x)", "x"),
+    ("(call (rec f x int int x) f)", "f"),
+    ("(if (let x true x) x 1)", "x"),
+    ("(let y (let x 1 x) x)", "x"),
+    ("(let x 1 (plus (let y 2 y) y))", "y"),
+    # the parts of let, fn and rec
+    ("(let x true (plus x 1))", None),
+    ("(let x 1 (let x true (plus x 1)))", None),
+    ("(let x (plus 1 true) 1)", None),
+    ("(fn x bool (plus x 1))", None),
+    ("(fn x int (not x))", None),
+    ("(rec f x int bool x)", None),
+    ("(rec f x bool int x)", None),
+    ("(rec f x int bool f)", None),
+    ("(rec f x int (fun int bool) f)", None),
+    ("(rec f x int int (call f true))", None),
+    ("(rec f x int int (not (call f x)))", None),
+    ("(rec f x int int (plus f x))", None),
+    ("(rec f f int int (call f f))", None),
+    ("(rec f f int (fun int int) f)", None),
+    ("(let f true (rec f x int int (if f 1 2)))", None),
+    # kinds that are alike only outside
+    ("(cons (nil int) (nil (list bool)))", None),
+    ("(cons (nil int) (nil int))", None),
+    ("(cons 1 (cons true (nil bool)))", None),
+    ("(if true (pair 1 true) (pair true 1))", None),
+    ("(if true (nil (pair int int)) (nil (pair int bool)))", None),
+    ("(if true (fn x int 1) (fn x bool 1))", None),
+    ("(if true (fn x int 1) (fn x int true))", None),
+    ("(call (fn x (list int) 1) (nil bool))", None),
+    ("(call (fn f (fun int int) 1) (fn x int true))", None),
+    ("(call (pair 1 1) 1)", None),
+    ("(call (fn x int x) (fn x int x))", None),
+    ("(first (fn x int x))", None),
+    ("(head (pair 1 1))", None),
+    ("(same true true)", None),
+    ("(same (nil int) (nil int))", None),
+    # two faults: the left one first, and the inner one ahead of the outer one
+    ("(plus y z)", "y"),
+    ("(plus (plus 1 true) y)", None),
+    ("(plus y (plus 1 true))", "y"),
+    ("(plus true y)", "y"),
+    ("(plus y true)", "y"),
+    ("(not (plus 1 y))", "y"),
+    ("(not (plus true 1))", None),
+    ("(cons 1 y)", "y"),
+    ("(cons true (cons y (nil int)))", "y"),
+    ("(if 1 y 2)", "y"),
+    ("(if 1 2 y)", "y"),
+    ("(if (not 1) y 2)", None),
+    ("(if y z 1)", "y"),
+    ("(call 1 y)", "y"),
+    ("(call y (not 1))", "y"),
+    ("(call (not 1) y)", None),
+    ("(and 1 y)", "y"),
+    ("(or 1 y)", "y"),
+    ("(pair (head 1) y)", None),
+    ("(pair y (head 1))", "y"),
+    ("(let x y (not 1))", "y"),
+    ("(let x (not 1) y)", None),
+    ("(let x 1 (plus (not x) y))", None),
+    ("(fn x int (plus true y))", "y"),
+    ("(rec f x int int (pair y true))", "y"),
+    ("(rec f x int int (if true y true))", "y"),
+    ("(pair (rec f x int int true) y)", None),
+]
+
+NO = ("truth", False)
+INTS = ("nil", "int")
+
+# Each word that can hold itself, in each place where it can: a part to begin with, its kind, how many parts one round
+# lays around another, and what it lays.
+ROUNDS = [
+    (INTS, ("list", "int"), 1, lambda part: ("cons", NUM, part)),
+    (INTS, ("list", "int"), 1, lambda part: ("tail", part)),
+    (NUM, "int", 2, lambda part: ("head", ("cons", part, INTS))),
+    (YES, "bool", 2, lambda part: ("empty", ("cons", part, ("nil", "bool")))),
+    (NUM, "int", 2, lambda part: ("first", ("pair", part, YES))),
+    (NUM, "int", 2, lambda part: ("second", ("pair", YES, part))),
+    (YES, "bool", 1, lambda part: ("if", part, YES, NO)),
+    (NUM, "int", 1, lambda part: ("if", YES, part, NUM)),
+    (NUM, "int", 1, lambda part: ("if", NO, NUM, part)),
+    (NUM, "int", 1, lambda part: ("let", "x", part, X)),
+    (NUM, "int", 1, lambda part: ("let", "x", NUM, part)),
+    (NUM, "int", 2, lambda part: ("call", ("fn", "x", "int", part), NUM)),
+    (NUM, "int", 2, lambda part: ("call", ("rec", "f", "x", "int", "int", part), NUM)),
+    (NUM, "int", 1, lambda part: ("call", ("fn", "x", "int", X), part)),
+    (YES, "bool", 2, lambda part: ("less", ("if", part, NUM, NUM), NUM)),
+    (YES, "bool", 2, lambda part: ("less", NUM, ("if", part, NUM, NUM))),
+    (YES, "bool", 2, lambda part: ("same", ("if", part, NUM, NUM), NUM)),
+    (YES, "bool", 2, lambda part: ("same", NUM, ("if", part, NUM, NUM))),
+    (YES, "bool", 1, lambda part: ("and", part, YES)),
+    (YES, "bool", 1, lambda part: ("and", YES, part)),
+    (YES, "bool", 1, lambda part: ("or", part, YES)),
+    (YES, "bool", 1, lambda part: ("or", NO, part)),
+    (YES, "bool", 1, lambda part: ("not", part)),
+]
+for word in ["plus", "minus", "times", "over", "rest"]:
+    ROUNDS.append((NUM, "int", 1, lambda part, word=word: (word, part, NUM)))
+    ROUNDS.append((NUM, "int", 1, lambda part, word=word: (word, NUM, part)))
+
+
+def rounds(depth, begin, levels, lay):
+    """A part with as many others around it as make it so deep."""
+    part = begin
+    for _ in range((depth - 1) // levels):
+        part = lay(part)
+    return part
+
+
+def deep_parts(depth):
+    """Parts so deep of each word that can hold itself, and their kinds."""
+    found = [(rounds(depth, begin, levels, lay), kind) for begin, kind, levels, lay in ROUNDS]
+    # Of these the kinds grow with the parts.
+    part, kind = NUM, "int"
+    for _ in range(depth - 1):
+        part, kind = ("pair", part, YES), ("pair", kind, "bool")
+    found.append((part, kind))
+    part, kind = NUM, "int"
+    for _ in range(depth - 1):
+        part, kind = ("pair", YES, part), ("pair", "bool", kind)
+    found.append((part, kind))
+    part, kind = X, "int"
+    for _ in range(depth - 1):
+        part, kind = ("fn", "x", "int", part), ("fun", "int", kind)
+    found.append((part, kind))
+    part, kind = X, "int"
+    for _ in range(min(depth - 1, 40)):
+        part, kind = ("rec", "f", "x", "int", kind, part), ("fun", "int", kind)
+    found.append((part, kind))
+    return found
+
+
+def doubled(times, begin):
+    """A name paired with itself so many times: its kind as a text would be longer than anything can hold."""
+    part = X
+    for _ in range(times):
+        part = ("let", "x", ("pair", X, X), part)
+    return ("let", "x", begin, part)

@@ -5,9 +5,12 @@ import subprocess
 import sys
 import unittest
 
-from plainspeak import errors, kinds, reading, words
+from plainspeak import compiling, errors, fitting, kinds, reading, words
 
-FUNCTIONS = [(kinds, "kind_text", ["kind"]), (reading, "read", ["text"]), (reading, "written", ["part"])]
+FUNCTIONS = [
+    (kinds, "kind_text", ["kind"]), (reading, "read", ["text"]), (reading, "written", ["part"]),
+    (fitting, "kind_of", ["part"]), (compiling, "compiled", ["part"]),
+]
 
 
 class TestInterface(unittest.TestCase):
@@ -29,6 +32,9 @@ class TestInterface(unittest.TestCase):
         self.assertIs(reading.read("true")[1], True)
         self.assertIs(reading.read("false")[1], False)
         self.assertIs(type(errors.BadText("words", 3).at), int)
+        self.assertIs(type(fitting.kind_of(("num", 5))), str)
+        self.assertIs(type(fitting.kind_of(("nil", "int"))), tuple)
+        self.assertIs(type(compiling.compiled(("num", 5))), list)
 
     def test_refusals_of_read_tell_whole_numbers(self):
         for text in ["", "$", "(not", "1 2", " " * 2001]:
