@@ -9,11 +9,13 @@ machine begins with the first order and an empty stack. The orders:
   stack, the last one uppermost, and lay that value on it.
 - ("fn", slots, size) and ("rec", slots, size) lay on the stack a function that keeps what is in the slots. Its own code
   is the next so many orders, which are passed over.
-- ("call",) takes off the stack what is handed over, then the function, and goes to the function's code. There the
-  lowest on the stack is what the function keeps, then, of a rec, the function itself, then what is handed over.
-- ("last call",) does this too, but all that the stack held of the function that it stands in is gone then.
-- ("tell",) ends a function: all that the stack held of it is gone, and its uppermost value is laid on the stack as the
-  value of the call. Where no call is pending the program is done.
+- ("call",) goes to the code of a function, which lies on the stack right beneath what it is handed. Both stay there
+  while the call is pending. Above them comes what the stack holds of the function: the lowest is what it keeps, then,
+  of a rec, the function itself, then what it is handed.
+- ("last call",) does this too, but it takes both off the stack, and all that the stack held of the function that it
+  stands in is gone then.
+- ("tell",) ends a function: all that the stack held of it and of its pending call is gone, and its uppermost value is
+  laid on the stack as the value of the call. Where no call is pending the program is done.
 - ("unless", size) takes a truth off the stack and passes over the next so many orders if it is false, ("skip", size)
   passes over them always, ("slide",) takes away what lies right beneath the uppermost.
 """

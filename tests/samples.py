@@ -1,4 +1,9 @@
-"""Parts with their texts, for each word, and what several tests need to know of the words."""
+"""Parts with their texts, for each word, and what several tests need to know of the words and of how parts run."""
+
+from plainspeak.compiling import compiled
+from plainspeak.errors import TooLong
+from plainspeak.machine import Machine
+from plainspeak.reading import read
 
 NUM = ("num", 1)
 YES = ("truth", True)
@@ -343,3 +348,92 @@ def doubled(times, begin):
     for _ in range(times):
         part = ("let", "x", ("pair", X, X), part)
     return ("let", "x", begin, part)
+
+
+SUM = "(rec s n int int (if (less n 1) 0 (plus n (call s (minus n 1)))))"
+LOOP = "(rec s p (pair int int) int (if (less (first p) 1) (second p)" \
+       " (call s (pair (minus (first p) 1) (plus (second p) (first p))))))"
+UPTO = "(rec u n int (list int) (if (less n 1) (nil int) (cons n (call u (minus n 1)))))"
+BUILD = "(rec b p (pair int (list int)) (list int) (if (less (first p) 1) (second p)" \
+        " (call b (pair (minus (first p) 1) (cons (first p) (second p))))))"
+TRAP = "(over 1 0)"
+# Goes on for ever, in last place or not, and makes nothing but one function.
+SPIN = "(call (rec s n int int (call s n)) 0)"
+
+# Texts, and what they come to.
+RUNS = [
+    ("-5", "-5"), ("true", "true"), ("(nil int)", "[]"), ("(fn x int x)", "fn"), ("(rec f x int int x)", "fn"),
+    ("(plus 2 3)", "5"), ("(minus 2 3)", "-1"), ("(times -2 3)", "-6"), ("(less 1 2)", "true"), ("(less 2 2)", "false"),
+    ("(same 2 2)", "true"), ("(same 2 3)", "false"), ("(not true)", "false"),
+    ("(over -7 2)", "-3"), ("(rest -7 2)", "-1"), ("(over 7 -2)", "-3"), ("(rest 7 -2)", "1"),
+    ("(plus 9223372036854775807 1)", "-9223372036854775808"),
+    ("(over -9223372036854775808 -1)", "-9223372036854775808"), ("(rest -9223372036854775808 -1)", "0"),
+    ("(over 1 0)", "by nought"), ("(rest 1 0)", "by nought"),
+    ("(head (nil int))", "of empty"), ("(tail (nil int))", "of empty"),
+    ("(cons 1 (cons 2 (nil int)))", "[1,2]"), ("(head (cons 1 (cons 2 (nil int))))", "1"),
+    ("(tail (cons 1 (cons 2 (nil int))))", "[2]"), ("(empty (nil int))", "true"), ("(empty (cons 1 (nil int)))", "false"),
+    ("(pair 1 (pair true (nil int)))", "(1,(true,[]))"), ("(first (pair 1 2))", "1"), ("(second (pair 1 2))", "2"),
+    # what is not reckoned
+    (f"(if true 1 {TRAP})", "1"), (f"(if false {TRAP} 2)", "2"), (f"(plus 1 (if true 1 {TRAP}))", "2"),
+    (f"(plus (if false {TRAP} 2) 1)", "3"), (f"(and false (same 1 {TRAP}))", "false"), ("(and true false)", "false"),
+    ("(and true true)", "true"), (f"(or true (same 1 {TRAP}))", "true"), ("(or false true)", "true"),
+    ("(or false false)", "false"), (f"(not (and false (same 1 {TRAP})))", "true"),
+    (f"(not (or true (same 1 {TRAP})))", "false"), ("(not (and true true))", "false"), ("(not (or false false))", "true"),
+    (f"(let f (fn x int {TRAP}) 1)", "1"),
+    # from the left
+    (f"(plus (head (nil int)) {TRAP})", "of empty"), (f"(plus {TRAP} (head (nil int)))", "by nought"),
+    (f"(call (head (nil (fun int int))) {TRAP})", "of empty"),
+    (f"(let x {TRAP} (head (nil int)))", "by nought"), (f"(call (fn x int (head (nil int))) {TRAP})", "by nought"),
+    ("(minus (minus 10 3) (minus 5 1))", "3"),
+    # names
+    ("(let x 1 (let x 2 x))", "2"), ("(let x 1 (plus (let x 2 x) x))", "3"), ("(let x 1 (pair x (let x 2 x)))", "(1,2)"),
+    ("(minus 10 (let x 3 (minus x (let y 2 (minus x y)))))", "8"),
+    ("(let x 1 (let f (fn y int (plus x y)) (let x 10 (call f x))))", "11"),
+    ("(let x 1 (let f (fn x int (plus x x)) (plus (call f 5) x)))", "11"),
+    ("(call (call (fn x int (fn y int (minus x y))) 10) 3)", "7"),
+    ("(let a 1 (let b 2 (call (fn x int (call (fn y int (pair (pair a b) (pair x y))) 4)) 3)))", "((1,2),(3,4))"),
+    ("(let f (fn x int (plus x 1)) (let g (fn x int (call f (call f x))) (call g 1)))", "3"),
+    ("(call (rec f f int int (plus f 1)) 1)", "2"),
+    ("(let y 5 (call (rec f x int int (if (less x 1) y (call f (minus x 1)))) 3))", "5"),
+    ("(let f (rec f x int int (if (less x 1) 0 (call f (minus x 1)))) (let g f (let f 1 (call g f))))", "0"),
+    # calls in last place and others
+    (f"(call {SUM} 40)", "820"), (f"(call {SUM} 41)", "too deep"), (f"(plus 0 (call {SUM} 39))", "780"),
+    (f"(plus 0 (call {SUM} 40))", "too deep"), (f"(call {LOOP} (pair 500 0))", "125250"),
+    (f"(plus 0 (call {LOOP} (pair 500 0)))", "125250"),
+    (f"(call {UPTO} 9)", "[9,8,7,6,5,4,3,2,1]"),
+    ("(call (rec f n int bool (or (less n 1) (call f (minus n 1)))) 200)", "true"),
+    ("(call (rec f n int bool (and (less 0 n) (call f (minus n 1)))) 200)", "false"),
+    ("(call (rec f n int int (let m (minus n 1) (if (less m 0) m (call f m)))) 200)", "-1"),
+    ("(call (rec f n int bool (not (if (less n 1) true (call f (minus n 1))))) 200)", "too deep"),
+    ("(call (rec f n int int (call f (call f n))) 1)", "too deep"),
+    ("(call (rec f n int int (plus (call f (head (nil int))) 0)) 1)", "of empty"),
+    ("(call (rec f n int int (if (less n 1) (head (nil int)) (plus (call f (minus n 1)) 0))) 40)", "of empty"),
+    ("(call (rec f n int int (plus (call f (if (less n 1) (head (nil int)) (minus n 1))) 0)) 40)", "of empty"),
+    ("(call (rec f n int int (plus (call f (if (less n 1) (head (nil int)) (minus n 1))) 0)) 41)", "too deep"),
+]
+
+MANY_STEPS = 200000
+
+
+def machine_of(text, room=400):
+    return Machine(compiled(read(text)), room)
+
+
+def ended(text, room=400):
+    """A machine that has run to its end."""
+    machine = machine_of(text, room)
+    machine.run(MANY_STEPS)
+    return machine
+
+
+def told_by(machine):
+    """The text of a machine's value, or how it stands."""
+    stands = machine.run(0)
+    try:
+        return machine.shown() if stands == "done" else stands
+    except TooLong:
+        return "too long"
+
+
+def came_to(text, room=400):
+    return told_by(ended(text, room))

@@ -5,12 +5,14 @@ import subprocess
 import sys
 import unittest
 
-from plainspeak import compiling, errors, fitting, kinds, reading, words
+from plainspeak import compiling, desk, errors, fitting, kinds, machine, reading, words
 
 FUNCTIONS = [
     (kinds, "kind_text", ["kind"]), (reading, "read", ["text"]), (reading, "written", ["part"]),
-    (fitting, "kind_of", ["part"]), (compiling, "compiled", ["part"]),
+    (fitting, "kind_of", ["part"]), (compiling, "compiled", ["part"]), (desk, "play", ["text"]),
+    (machine, "Machine", ["code", "room"]),
 ]
+METHODS = {"run": ["self", "steps"], "collect": ["self"], "made": ["self"], "used": ["self"], "shown": ["self"]}
 
 
 class TestInterface(unittest.TestCase):
@@ -19,10 +21,15 @@ class TestInterface(unittest.TestCase):
         told = subprocess.run([sys.executable, "-c", program], capture_output=True, text=True, check=True)
         self.assertEqual(told.stdout.strip(), "[]")
 
-    def test_functions_take_one_thing_by_place(self):
+    def test_what_functions_and_classes_take(self):
         for module, name, arguments in FUNCTIONS:
             with self.subTest(name=name):
                 self.assertEqual(list(inspect.signature(getattr(module, name)).parameters), arguments)
+
+    def test_what_methods_take(self):
+        for name, arguments in METHODS.items():
+            with self.subTest(name=name):
+                self.assertEqual(list(inspect.signature(getattr(machine.Machine, name)).parameters), arguments)
 
     def test_kinds_of_what_is_told(self):
         self.assertIs(type(kinds.kind_text(("list", "int"))), str)
@@ -35,6 +42,8 @@ class TestInterface(unittest.TestCase):
         self.assertIs(type(fitting.kind_of(("num", 5))), str)
         self.assertIs(type(fitting.kind_of(("nil", "int"))), tuple)
         self.assertIs(type(compiling.compiled(("num", 5))), list)
+        self.assertIs(type(desk.play("run 1")), list)
+        self.assertIs(type(desk.play("run 1")[0]), str)
 
     def test_refusals_of_read_tell_whole_numbers(self):
         for text in ["", "$", "(not", "1 2", " " * 2001]:
