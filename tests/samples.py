@@ -1,5 +1,8 @@
 """Parts with their texts, for each word, and what several tests need to know of the words and of how parts run."""
 
+import fractions
+import math
+
 from plainspeak.compiling import compiled
 from plainspeak.errors import TooLong
 from plainspeak.machine import Machine
@@ -348,6 +351,27 @@ def doubled(times, begin):
     for _ in range(times):
         part = ("let", "x", ("pair", X, X), part)
     return ("let", "x", begin, part)
+
+
+def brought_in(number):
+    """A number as 64 bits hold it."""
+    return int.from_bytes((number & (2 ** 64 - 1)).to_bytes(8, "big"), "big", signed=True)
+
+
+def cut(one, other):
+    return math.trunc(fractions.Fraction(one, other))
+
+
+# What the words of two numbers make of them, but over and rest by nought, which are Python's own error here.
+SUMS = {
+    "plus": lambda one, other: brought_in(one + other),
+    "minus": lambda one, other: brought_in(one - other),
+    "times": lambda one, other: brought_in(one * other),
+    "over": lambda one, other: brought_in(cut(one, other)),
+    "rest": lambda one, other: one - other * cut(one, other),
+    "less": lambda one, other: one < other,
+    "same": lambda one, other: one == other,
+}
 
 
 SUM = "(rec s n int int (if (less n 1) 0 (plus n (call s (minus n 1)))))"

@@ -6,28 +6,7 @@ from plainspeak.compiling import compiled
 from plainspeak.heap import EMPTY, Heap
 from plainspeak.reading import read
 from plainspeak.words import values_behind
-from samples import FIT, LOOP, RUNS, UPTO, deep_parts
-
-ROUND = 2 ** 64
-
-
-def whole(number):
-    return (number + ROUND // 2) % ROUND - ROUND // 2
-
-
-def over(one, other):
-    return abs(one) // abs(other) * (1 if (one < 0) == (other < 0) else -1)
-
-
-RECKONED = {
-    "plus": lambda one, other: whole(one + other),
-    "minus": lambda one, other: whole(one - other),
-    "times": lambda one, other: whole(one * other),
-    "over": lambda one, other: whole(over(one, other)),
-    "rest": lambda one, other: one - other * over(one, other),
-    "less": lambda one, other: one < other,
-    "same": lambda one, other: one == other,
-}
+from samples import FIT, LOOP, RUNS, SUMS, UPTO, deep_parts
 
 
 class Runner:
@@ -55,7 +34,7 @@ class Runner:
         if word in ["over", "rest"] and other == 0:
             self.stands = "by nought"
         else:
-            self.stack.append(RECKONED[word](one, other))
+            self.stack.append(SUMS[word](one, other))
 
     def do_put(self, value):
         self.stack.append(value)

@@ -4,8 +4,6 @@ The reckoner has no code, no steps and no heap: it goes through the parts themse
 it keeps a row: the names in scope, the values so far, and whether the part ends with the one that is reckoned in it.
 """
 
-import fractions
-import math
 import sys
 import unittest
 
@@ -14,7 +12,7 @@ from plainspeak.errors import TooLong
 from plainspeak.machine import Machine
 from plainspeak.reading import read
 from plainspeak.words import values_behind
-from samples import BUILD, FIT, LOOP, NUM, RUNS, SUM, TRAP, UPTO, deep_parts, doubled
+from samples import BUILD, FIT, LOOP, NUM, RUNS, SUM, SUMS, TRAP, UPTO, deep_parts, doubled
 
 # Parts in last place lie within one another here.
 sys.setrecursionlimit(max(sys.getrecursionlimit(), 20000))
@@ -44,37 +42,27 @@ def names_in(part):
     return set().union(*inner)
 
 
-def whole(number):
-    return (number + 2 ** 63) % 2 ** 64 - 2 ** 63
-
-
-def cut(one, other):
-    if other == 0:
-        raise Trapped("by nought")
-    return math.trunc(fractions.Fraction(one, other))
-
-
 def held(thing, place):
     if thing is None:
         raise Trapped("of empty")
     return thing.held[place]
 
 
-MADE_OF_VALUES = {
+MADE_OF_ONE = {
     "head": lambda one: held(one, 0),
     "tail": lambda one: held(one, 1),
     "first": lambda one: held(one, 0),
     "second": lambda one: held(one, 1),
     "empty": lambda one: one is None,
     "not": lambda one: not one,
-    "plus": lambda one, other: whole(one + other),
-    "minus": lambda one, other: whole(one - other),
-    "times": lambda one, other: whole(one * other),
-    "over": lambda one, other: whole(cut(one, other)),
-    "rest": lambda one, other: one - other * cut(one, other),
-    "less": lambda one, other: one < other,
-    "same": lambda one, other: one == other,
 }
+
+
+def sum_of(word, one, other):
+    try:
+        return SUMS[word](one, other)
+    except ZeroDivisionError:
+        raise Trapped("by nought") from None
 
 
 class Reckoner:
@@ -122,7 +110,9 @@ class Reckoner:
             return self.make(part, list(row["values"]), {})
         if word == "call":
             return self.call(row, last)
-        return MADE_OF_VALUES[word](*row["values"])
+        if word in SUMS:
+            return sum_of(word, *row["values"])
+        return MADE_OF_ONE[word](*row["values"])
 
     def choice(self, part, names, last, row):
         first = self.reckon(part[1], names, False)
